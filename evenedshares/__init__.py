@@ -1,0 +1,1 @@
+"""Evenedshares: rules of taxes and benefits that leave all distributions more even."""

@@ -1,0 +1,72 @@
+"""The rules of LANGUAGE.md that can be looked up mechanically."""
+
+import ast
+import pathlib
+import unittest
+
+PACKAGE = pathlib.Path(__file__).resolve().parent.parent / "evenedshares"
+FILES = sorted(PACKAGE.glob("**/*.py"))
+LIBRARY = {"heapq", "math", "itertools", "collections"}
+BUILTINS = set(
+    "len range enumerate zip min max sum abs sorted reversed int str bool list tuple dict set isinstance ord repr any "
+    "all divmod pow map iter next bytes type getattr hasattr setattr property classmethod staticmethod super".split())
+
+
+def trees():
+    for path in FILES:
+        yield path.name, ast.parse(path.read_text(encoding="utf-8"))
+
+
+class Language(unittest.TestCase):
+    def test_the_folder_holds_python_files_only(self):
+        others = [path for path in PACKAGE.iterdir() if path.suffix != ".py" and path.name != "__pycache__"]
+        self.assertEqual(others, [])
+        self.assertIn(PACKAGE / "__init__.py", FILES)
+
+    def test_sizes_and_characters(self):
+        for path in FILES:
+            text = path.read_text(encoding="utf-8")
+            with self.subTest(file=path.name):
+                self.assertLessEqual(text.count("\n"), 399)
+                self.assertLessEqual(max(len(line) for line in text.split("\n")), 120)
+                self.assertEqual([char for char in text if char != "\n" and not " " <= char <= "~"], [])
+
+    def test_functions_have_at_most_40_lines(self):
+        for name, tree in trees():
+            for node in ast.walk(tree):
+                if isinstance(node, ast.FunctionDef):
+                    with self.subTest(file=name, function=node.name):
+                        self.assertLessEqual(node.end_lineno - node.lineno + 1, 40)
+
+    def test_imports(self):
+        for name, tree in trees():
+            for node in ast.walk(tree):
+                self.assertNotIsInstance(node, ast.Import, name)
+                if isinstance(node, ast.ImportFrom):
+                    self.assertEqual(node.level, 0)
+                    self.assertTrue(node.module in LIBRARY or node.module.startswith("evenedshares."), node.module)
+                    self.assertEqual([each.asname for each in node.names if each.asname], [])
+
+    def test_numbers(self):
+        for name, tree in trees():
+            for node in ast.walk(tree):
+                with self.subTest(file=name, line=getattr(node, "lineno", None)):
+                    self.assertNotIsInstance(node, ast.Div)
+                    self.assertFalse(isinstance(node, ast.Constant) and isinstance(node.value, (float, complex)))
+                    if isinstance(node, ast.BinOp) and isinstance(node.op, ast.Pow):
+                        if isinstance(node.right, ast.Constant):
+                            self.assertIn(node.right.value, range(65))
+
+    def test_no_other_builtins(self):
+        others = set(vars(__builtins__) if not isinstance(__builtins__, dict) else __builtins__)
+        others = {each for each in others if each[0].islower()} - BUILTINS
+        for name, tree in trees():
+            if name == "__main__.py":
+                continue
+            for node in ast.walk(tree):
+                if isinstance(node, ast.Name):
+                    self.assertNotIn(node.id, others, f"{name}:{node.lineno}")
+
+
+if __name__ == "__main__":
+    unittest.main()
