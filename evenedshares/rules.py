@@ -60,9 +60,14 @@ def plain():
 
 def keeps_order(rule):
     """Return whether the rule leaves no income less than a lower one."""
+    return first_turn(bands_of(rule)) is None
+
+
+def bands_of(rule):
+    """Return the bands of a rule, and refuse what is none."""
     if not isinstance(rule, Rule):
         raise NotARule(rule)
-    return first_turn(rule.bands) is None
+    return rule.bands
 
 
 def first_wrong(bands):

@@ -57,6 +57,22 @@ class Language(unittest.TestCase):
                         if isinstance(node.right, ast.Constant):
                             self.assertIn(node.right.value, range(65))
 
+    def test_no_generator_expressions_beside_classes_that_compare(self):
+        for name, tree in trees():
+            for node in ast.walk(tree):
+                self.assertNotIsInstance(node, ast.GeneratorExp, name)
+
+    def test_no_variable_has_the_name_of_an_import_or_a_class(self):
+        for name, tree in trees():
+            taken = {each.asname or each.name for node in tree.body if isinstance(node, ast.ImportFrom)
+                     for each in node.names}
+            taken |= {node.name for node in tree.body if isinstance(node, ast.ClassDef)}
+            for node in ast.walk(tree):
+                if isinstance(node, ast.Name) and isinstance(node.ctx, ast.Store):
+                    self.assertNotIn(node.id, taken, f"{name}:{node.lineno}")
+                if isinstance(node, ast.arg):
+                    self.assertNotIn(node.arg, taken, f"{name}:{node.lineno}")
+
     def test_no_other_builtins(self):
         others = set(vars(__builtins__) if not isinstance(__builtins__, dict) else __builtins__)
         others = {each for each in others if each[0].islower()} - BUILTINS

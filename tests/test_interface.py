@@ -1,0 +1,61 @@
+"""Everything that the interface lists stands in its own file, under its names."""
+
+import importlib
+import inspect
+import unittest
+
+FUNCTIONS = {
+    "rules": {"plain": "", "keeps_order": "rule"},
+    "purses": {"behind": "rule purse", "taken": "rule purse"},
+    "curves": {
+        "held": "purse part whole", "is_as_even": "first second", "order": "first second", "crossing": "first second",
+        "unevenness": "purse", "gifts": "first second",
+    },
+    "evening": {
+        "evens_more": "one other", "breaking": "one other", "windows": "one other", "contrary": "one other",
+        "least_lump": "one other",
+    },
+}
+CLASSES = {
+    "rules": {"Rule": {"__init__": "self bands", "read": "text", "left": "self income", "bands": None}},
+    "purses": {"Purse": {"__init__": "self kinds", "read": "text", "kinds": None, "people": None, "total": None}},
+}
+# What operators and builtins need of each class.
+ALIKE = ("__len__", "__str__", "__eq__")
+
+
+def module(name):
+    return importlib.import_module(f"evenedshares.{name}")
+
+
+class Interface(unittest.TestCase):
+    def test_functions_and_their_parameters(self):
+        for name, functions in FUNCTIONS.items():
+            for function, parameters in functions.items():
+                with self.subTest(module=name, function=function):
+                    found = getattr(module(name), function)
+                    self.assertEqual(found.__module__, f"evenedshares.{name}")
+                    signature = inspect.signature(found).parameters
+                    self.assertEqual(list(signature), parameters.split())
+                    if "other" in signature:
+                        self.assertIsNone(signature["other"].default)
+
+    def test_classes_and_what_they_define(self):
+        for name, classes in CLASSES.items():
+            for title, methods in classes.items():
+                found = getattr(module(name), title)
+                self.assertEqual(found.__module__, f"evenedshares.{name}")
+                for method in ALIKE:
+                    self.assertIn(method, vars(found))
+                for method, parameters in methods.items():
+                    with self.subTest(title=title, method=method):
+                        self.assertIn(method, vars(found))
+                        if parameters is None:
+                            self.assertIsInstance(vars(found)[method], property)
+                        else:
+                            signature = inspect.signature(getattr(found, method))
+                            self.assertEqual(list(signature.parameters), parameters.split())
+
+
+if __name__ == "__main__":
+    unittest.main()
