@@ -62,17 +62,13 @@ def unevenness(purse):
 def gifts(first, second):
     """Return the least sum of gifts that lead from the first purse to the second one, None if none do."""
     kinds, others = kinds_of(first), kinds_of(second)
-    if first.people != second.people or first.total != second.total:
-        return None
-    if first_crossing(others, kinds) is not None:
-        return None
-    return sum([(amount - there) * many for amount, there, many in side_by_side(kinds, others) if amount > there])
+    return least_gifts(kinds, others)
 
 
 def lowest_share(kinds, part, whole):
     """Return the lowest share for the fraction part / whole as a pair of integers."""
-    people = sum([count for amount, count in kinds])
-    total = sum([amount * count for amount, count in kinds])
+    people = ends_of(kinds)[-1]
+    total = total_of(kinds)
     if total == 0:
         return part, whole
     # Each person counts as this whole number of pieces, so that none of them is divided.
@@ -101,6 +97,30 @@ def first_crossing(kinds, others):
     return None
 
 
+def least_gifts(kinds, others):
+    """Return the least sum of gifts that lead from these kinds to the others, None if none do."""
+    if ends_of(kinds)[-1] != ends_of(others)[-1] or total_of(kinds) != total_of(others):
+        return None
+    if first_crossing(others, kinds) is not None:
+        return None
+    return sum([gives for amount, gives, gets in gives_and_gets(kinds, others)])
+
+
+def gives_and_gets(kinds, others):
+    """Return for each kind a triple (amount, gives, gets); the other kinds have as many people.
+
+    All with this amount together give what they have more than at their places in the others, and get what they have
+    less there.
+    """
+    found = []
+    places = side_by_side(kinds, others)
+    for amount, count in kinds:
+        apart = [((amount - there) * many) for here, there, many in places if here == amount]
+        gives = sum([more for more in apart if more > 0])
+        found.append((amount, gives, gives - sum(apart)))
+    return found
+
+
 def side_by_side(kinds, others):
     """Return triples (amount, amount there, many): all people of both by their places; both have as many."""
     found = []
@@ -109,6 +129,11 @@ def side_by_side(kinds, others):
         found.append((amount_at(kinds, place), amount_at(others, place), end - place))
         place = end
     return found
+
+
+def total_of(kinds):
+    """Return what all people of these kinds have together."""
+    return sum([amount * count for amount, count in kinds])
 
 
 def ends_of(kinds):

@@ -4,9 +4,14 @@
 MOST_DIGITS = 80
 
 
+def is_integer(value):
+    """Return whether this value is an integer, not True or False."""
+    return isinstance(value, int) and not isinstance(value, bool)
+
+
 def is_within(value, least, most):
     """Return whether this value is an integer, not True or False, from least to most."""
-    return isinstance(value, int) and not isinstance(value, bool) and least <= value <= most
+    return is_integer(value) and least <= value <= most
 
 
 def read_integer(word):

@@ -6,13 +6,18 @@ from evenedshares.rules import bands_of, first_turn, left_by, plain
 
 def ordered_bands(other):
     """Return the bands of a rule that keeps order, and refuse what is none; None is the plain rule."""
-    if other is None:
-        return plain().bands
-    bands = bands_of(other)
+    bands = other_bands(other)
     turned = first_turn(bands)
     if turned is not None:
         raise OrderTurned(turned)
     return bands
+
+
+def other_bands(other):
+    """Return the bands of a rule, and refuse what is none; None is the plain rule."""
+    if other is None:
+        return plain().bands
+    return bands_of(other)
 
 
 def neighbours(bands, others):

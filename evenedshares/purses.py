@@ -22,14 +22,10 @@ class Purse:
         """Return the purse with this text."""
         if not isinstance(text, str):
             raise InvalidText(text)
-        try:
-            purse = cls(tuple([kind_of(line) for line in text.split("\n")]))
-        except InvalidKinds:
-            raise InvalidText(text) from None
-        # The lines were read leniently: another word and needless zeros show only here.
-        if str(purse) != text:
+        kinds = kinds_with(text)
+        if kinds is None:
             raise InvalidText(text)
-        return purse
+        return cls(kinds)
 
     @property
     def kinds(self):
@@ -50,7 +46,7 @@ class Purse:
         return len(self._kinds)
 
     def __str__(self):
-        return "\n".join([f"{count} of {amount}" for amount, count in self._kinds])
+        return text_of(self._kinds)
 
     def __eq__(self, other):
         return isinstance(other, Purse) and self._kinds == other._kinds
@@ -59,11 +55,7 @@ class Purse:
 def behind(rule, purse):
     """Return the purse behind the rule, of a purse of incomes."""
     bands = bands_of(rule)
-    counts = {}
-    for income, count in incomes_of(purse):
-        left = left_by(bands, income)
-        counts[left] = counts.get(left, 0) + count
-    kinds = tuple([(left, counts[left]) for left in sorted(counts)])
+    kinds = kinds_behind(bands, incomes_of(purse))
     for left, count in kinds:
         if count > MOST_COUNT:
             raise TooMuch(count)
@@ -74,6 +66,15 @@ def taken(rule, purse):
     """Return what the rule takes of a purse of incomes in all, in hundredths."""
     bands = bands_of(rule)
     return sum([(100 * income - left_by(bands, income)) * count for income, count in incomes_of(purse)])
+
+
+def kinds_behind(bands, incomes):
+    """Return the kinds behind these bands, of kinds of incomes, however many people are put together."""
+    counts = {}
+    for income, count in incomes:
+        left = left_by(bands, income)
+        counts[left] = counts.get(left, 0) + count
+    return tuple([(left, counts[left]) for left in sorted(counts)])
 
 
 def kinds_of(purse):
@@ -108,6 +109,20 @@ def is_kind(kind, least):
         return False
     amount, count = kind
     return is_within(amount, least, MOST_AMOUNT) and is_within(count, 1, MOST_COUNT)
+
+
+def text_of(kinds):
+    """Return the text of a purse with these kinds."""
+    return "\n".join([f"{count} of {amount}" for amount, count in kinds])
+
+
+def kinds_with(text):
+    """Return the kinds of the purse with this text, None if it is the text of none."""
+    kinds = tuple([kind_of(line) for line in text.split("\n")])
+    # The lines were read leniently: another word and needless zeros show only in the text.
+    if first_wrong(kinds) is not None or text_of(kinds) != text:
+        return None
+    return kinds
 
 
 def kind_of(line):

@@ -23,14 +23,10 @@ class Rule:
         """Return the rule with this text."""
         if not isinstance(text, str):
             raise InvalidText(text)
-        try:
-            rule = cls(tuple([band_of(line) for line in text.split("\n")]))
-        except InvalidBands:
-            raise InvalidText(text) from None
-        # The lines were read leniently: other words and needless zeros show only here.
-        if str(rule) != text:
+        bands = bands_with(text)
+        if bands is None:
             raise InvalidText(text)
-        return rule
+        return cls(bands)
 
     @property
     def bands(self):
@@ -47,7 +43,7 @@ class Rule:
         return len(self._bands)
 
     def __str__(self):
-        return "\n".join([f"from {start} value {value} step {step}" for start, value, step in self._bands])
+        return text_of(self._bands)
 
     def __eq__(self, other):
         return isinstance(other, Rule) and self._bands == other._bands
@@ -131,6 +127,27 @@ def left_by(bands, income):
     """Return what these bands leave of an income, however great it is."""
     start, value, step = [band for band in bands if band[0] <= income][-1]
     return value + step * (income - start)
+
+
+def with_band(bands, index, value, step):
+    """Return these bands, of which the one with this index has this value and this step."""
+    return (*bands[:index], (bands[index][0], value, step), *bands[index + 1:])
+
+
+def text_of(bands):
+    """Return the text of a rule with these bands."""
+    return "\n".join([f"from {start} value {value} step {step}" for start, value, step in bands])
+
+
+def bands_with(text):
+    """Return the bands of the rule with this text, None if it is the text of none."""
+    bands = tuple([band_of(line) for line in text.split("\n")])
+    if first_wrong(bands) is not None or first_below(bands) is not None:
+        return None
+    # The lines were read leniently: other words and needless zeros show only here.
+    if text_of(bands) != text:
+        return None
+    return bands
 
 
 def band_of(line):

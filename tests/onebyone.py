@@ -132,3 +132,39 @@ def distinct(chance, many, most):
     while len(found) < many:
         found[chance.randint(1, most)] = True
     return list(found)
+
+
+def evens_by_view(bands, others, view, end):
+    """Whether no income below the end breaks it when both leave so many hundredths more."""
+    return breaking(lifted(bands, view), lifted(others, view), end) is None
+
+
+def evens_differences(bands, others, end):
+    """Whether each difference below the end is at least 0 and at most that of the others."""
+    return all(0 <= left(bands, income + 1) - left(bands, income) <= left(others, income + 1) - left(others, income)
+               for income in range(end))
+
+
+def below_the_mean(kinds):
+    """For each number of people, by how much the lowest of them are below the mean of all, together."""
+    amounts = persons(kinds)
+    mean = Fraction(sum(amounts), len(amounts))
+    return [many * mean - sum(amounts[:many]) for many in range(len(amounts) + 1)]
+
+
+def above(bands, others, end):
+    """All stretches of incomes of which the bands leave more, as the incomes below the end show them."""
+    found = []
+    first = None
+    for income in range(end):
+        if left(bands, income) > left(others, income):
+            first = income if first is None else first
+        elif first is not None:
+            found.append((first, income - 1))
+            first = None
+    return tuple(found) + (() if first is None else ((first, None),))
+
+
+def taken(bands, kinds):
+    """What the bands take of all people together."""
+    return sum(100 * amount - left(bands, amount) for amount in persons(kinds))

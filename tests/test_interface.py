@@ -15,7 +15,12 @@ FUNCTIONS = {
         "evens_more": "one other", "breaking": "one other", "windows": "one other", "contrary": "one other",
         "least_lump": "one other",
     },
+    "views": {"views": "one other", "evens_differences": "one other"},
+    "leaving": {"leaves_more": "one other", "above": "one other"},
+    "mending": {"mending": "one changes other"},
 }
+# Functions for which there is no other rule to be left out.
+NEVER_NONE = ("leaves_more", "above")
 CLASSES = {
     "rules": {"Rule": {"__init__": "self bands", "read": "text", "left": "self income", "bands": None}},
     "purses": {"Purse": {"__init__": "self kinds", "read": "text", "kinds": None, "people": None, "total": None}},
@@ -38,7 +43,8 @@ class Interface(unittest.TestCase):
                     signature = inspect.signature(found).parameters
                     self.assertEqual(list(signature), parameters.split())
                     if "other" in signature:
-                        self.assertIsNone(signature["other"].default)
+                        default = inspect.Parameter.empty if function in NEVER_NONE else None
+                        self.assertIs(signature["other"].default, default)
 
     def test_classes_and_what_they_define(self):
         for name, classes in CLASSES.items():
