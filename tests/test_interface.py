@@ -18,15 +18,30 @@ FUNCTIONS = {
     "views": {"views": "one other", "evens_differences": "one other"},
     "leaving": {"leaves_more": "one other", "above": "one other"},
     "mending": {"mending": "one changes other"},
+    "checker": {"accepts": "claim certificate"},
+    "certificates": {
+        "certify_evening": "one other", "certify_order": "first second", "certify_gifts": "first second",
+    },
 }
 # Functions for which there is no other rule to be left out.
 NEVER_NONE = ("leaves_more", "above")
 CLASSES = {
     "rules": {"Rule": {"__init__": "self bands", "read": "text", "left": "self income", "bands": None}},
     "purses": {"Purse": {"__init__": "self kinds", "read": "text", "kinds": None, "people": None, "total": None}},
+    "drafts": {"Draft": {
+        "__init__": "self rule", "turn": "self index value step", "cut": "self start", "merge": "self index",
+        "undo": "self", "rule": None, "changes": None, "evens": "self", "trial": "self", "tried": "self action",
+    }},
+    "books": {"Book": {
+        "__init__": "self", "wish": "self wish", "lift": "self index", "undo": "self", "names": None, "wishes": None,
+        "changes": None, "trial": "self", "tried": "self action",
+    }},
 }
 # What operators and builtins need of each class.
-ALIKE = ("__len__", "__str__", "__eq__")
+ALIKE = {
+    "Rule": ("__len__", "__str__", "__eq__"), "Purse": ("__len__", "__str__", "__eq__"), "Draft": ("__eq__",),
+    "Book": ("__setitem__", "__getitem__", "__contains__", "__len__", "__bool__", "__eq__"),
+}
 
 
 def module(name):
@@ -51,7 +66,7 @@ class Interface(unittest.TestCase):
             for title, methods in classes.items():
                 found = getattr(module(name), title)
                 self.assertEqual(found.__module__, f"evenedshares.{name}")
-                for method in ALIKE:
+                for method in ALIKE[title]:
                     self.assertIn(method, vars(found))
                 for method, parameters in methods.items():
                     with self.subTest(title=title, method=method):

@@ -73,6 +73,44 @@ class Language(unittest.TestCase):
                 if isinstance(node, ast.arg):
                     self.assertNotIn(node.arg, taken, f"{name}:{node.lineno}")
 
+    def test_is_stands_beside_none_true_false_and_self_alone(self):
+        for name, tree in trees():
+            for node in ast.walk(tree):
+                if isinstance(node, ast.Compare) and any(isinstance(op, (ast.Is, ast.IsNot)) for op in node.ops):
+                    sides = [ast.unparse(side) for side in (node.left, *node.comparators)]
+                    self.assertTrue({"None", "True", "False", "self"}.intersection(sides), f"{name}:{node.lineno}")
+
+    def test_classes_of_values_are_compared_on_the_spot(self):
+        for name, tree in trees():
+            compared = {id(node.left) for node in ast.walk(tree) if isinstance(node, ast.Compare)}
+            for node in ast.walk(tree):
+                if isinstance(node, ast.Call) and isinstance(node.func, ast.Name) and node.func.id == "type":
+                    self.assertIn(id(node), compared, f"{name}:{node.lineno}")
+
+    def test_nothing_is_read_off_a_class(self):
+        classes = {node.name for _, tree in trees() for node in ast.walk(tree) if isinstance(node, ast.ClassDef)}
+        for name, tree in trees():
+            for node in ast.walk(tree):
+                if isinstance(node, ast.Attribute) and isinstance(node.value, ast.Name):
+                    self.assertNotIn(node.value.id, classes, f"{name}:{node.lineno}")
+
+    def test_blocks_end_with_plain_assignments(self):
+        """In an `__exit__` stand assignments of names and attributes, and questions after the kind of an error."""
+        for name, tree in trees():
+            for node in ast.walk(tree):
+                if isinstance(node, ast.FunctionDef) and node.name == "__exit__":
+                    rows = [row for each in node.body for row in ast.walk(each)]
+                    kinds = {type(row).__name__ for row in rows if isinstance(row, (ast.stmt, ast.expr))}
+                    self.assertLessEqual(kinds, {"Assign", "If", "Compare", "Name", "Attribute", "Constant"})
+
+    def test_what_has_items_says_that_it_is_not_iterated_over(self):
+        for name, tree in trees():
+            for node in ast.walk(tree):
+                if isinstance(node, ast.ClassDef):
+                    methods = [each.name for each in node.body if isinstance(each, ast.FunctionDef)]
+                    if "__getitem__" in methods:
+                        self.assertIn("__iter__", methods)
+
     def test_no_other_builtins(self):
         others = set(vars(__builtins__) if not isinstance(__builtins__, dict) else __builtins__)
         others = {each for each in others if each[0].islower()} - BUILTINS
