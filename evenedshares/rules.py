@@ -43,7 +43,7 @@ class Rule:
         return len(self._bands)
 
     def __str__(self):
-        return text_of(self._bands)
+        return "\n".join(lines_of(self._bands))
 
     def __eq__(self, other):
         return isinstance(other, Rule) and self._bands == other._bands
@@ -134,18 +134,19 @@ def with_band(bands, index, value, step):
     return (*bands[:index], (bands[index][0], value, step), *bands[index + 1:])
 
 
-def text_of(bands):
-    """Return the text of a rule with these bands."""
-    return "\n".join([f"from {start} value {value} step {step}" for start, value, step in bands])
+def lines_of(bands):
+    """Return the lines of the text of a rule with these bands."""
+    return [f"from {start} value {value} step {step}" for start, value, step in bands]
 
 
 def bands_with(text):
     """Return the bands of the rule with this text, None if it is the text of none."""
-    bands = tuple([band_of(line) for line in text.split("\n")])
+    lines = text.split("\n")
+    bands = tuple([band_of(line) for line in lines])
     if first_wrong(bands) is not None or first_below(bands) is not None:
         return None
     # The lines were read leniently: other words and needless zeros show only here.
-    if text_of(bands) != text:
+    if lines_of(bands) != lines:
         return None
     return bands
 

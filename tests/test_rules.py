@@ -55,6 +55,23 @@ class Making(unittest.TestCase):
             "from 1" + "0" * 29 + " value 1" + "0" * 32 + " step 1000",
         ])
 
+    def test_text_of_one_band(self):
+        for band, text in (((0, 0, 100), "from 0 value 0 step 100"), ((0, 50000, 0), "from 0 value 50000 step 0"),
+                           ((0, 10 ** 32, 1000), "from 0 value 1" + "0" * 32 + " step 1000")):
+            with self.subTest(band=band):
+                self.assertIs(type(str(Rule((band,)))), str)
+                self.assertEqual(str(Rule((band,))), text)
+
+    def test_text_of_several_bands(self):
+        self.assertEqual(str(Rule(DUES)), "from 0 value 0 step 100\nfrom 1000 value 100000 step 60")
+        self.assertEqual(str(Rule(((0, 9, -1), (9, 40, -5), (12, 0, 0)))),
+                         "from 0 value 9 step -1\nfrom 9 value 40 step -5\nfrom 12 value 0 step 0")
+        self.assertEqual(str(Rule(EIGHT)), (
+            "from 0 value 0 step 100\nfrom 10 value 1000 step 99\nfrom 20 value 2000 step 98\n"
+            "from 30 value 3000 step 97\nfrom 40 value 4000 step 96\nfrom 50 value 5000 step 95\n"
+            "from 60 value 6000 step 94\nfrom 70 value 7000 step 93"))
+        self.assertIs(type(str(Rule(EIGHT))), str)
+
     def test_plain_rule(self):
         self.assertEqual(plain().bands, ((0, 0, 100),))
         self.assertEqual(plain(), Rule(((0, 0, 100),)))
