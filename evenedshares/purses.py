@@ -46,7 +46,7 @@ class Purse:
         return len(self._kinds)
 
     def __str__(self):
-        return text_of(self._kinds)
+        return "\n".join(lines_of(self._kinds))
 
     def __eq__(self, other):
         return isinstance(other, Purse) and self._kinds == other._kinds
@@ -111,16 +111,17 @@ def is_kind(kind, least):
     return is_within(amount, least, MOST_AMOUNT) and is_within(count, 1, MOST_COUNT)
 
 
-def text_of(kinds):
-    """Return the text of a purse with these kinds."""
-    return "\n".join([f"{count} of {amount}" for amount, count in kinds])
+def lines_of(kinds):
+    """Return the lines of the text of a purse with these kinds."""
+    return [f"{count} of {amount}" for amount, count in kinds]
 
 
 def kinds_with(text):
     """Return the kinds of the purse with this text, None if it is the text of none."""
-    kinds = tuple([kind_of(line) for line in text.split("\n")])
-    # The lines were read leniently: another word and needless zeros show only in the text.
-    if first_wrong(kinds) is not None or text_of(kinds) != text:
+    lines = text.split("\n")
+    kinds = tuple([kind_of(line) for line in lines])
+    # The lines were read leniently: another word and needless zeros show only in the lines as they should be.
+    if first_wrong(kinds) is not None or lines_of(kinds) != lines:
         return None
     return kinds
 

@@ -17,6 +17,44 @@ def trees():
         yield path.name, ast.parse(path.read_text(encoding="utf-8"))
 
 
+def is_plain_text(value):
+    """Whether this is a string, an f-string, str(..), repr(..) or the join of a literal."""
+    if isinstance(value, ast.JoinedStr) or is_literal(value, str):
+        return True
+    if not isinstance(value, ast.Call):
+        return False
+    if isinstance(value.func, ast.Attribute):
+        return value.func.attr == "join" and is_literal(value.func.value, str)
+    return isinstance(value.func, ast.Name) and value.func.id in ("str", "repr")
+
+
+def is_plain_length(value):
+    """Whether this is len(..) or a literal number."""
+    if isinstance(value, ast.Call):
+        return isinstance(value.func, ast.Name) and value.func.id == "len"
+    return is_literal(value, int)
+
+
+def is_literal(value, kind):
+    return isinstance(value, ast.Constant) and type(value.value) is kind
+
+
+# What each return of these methods is (L28).
+FORMS = {"__str__": is_plain_text, "__repr__": is_plain_text, "__len__": is_plain_length}
+
+
+def formless(tree):
+    """The rows at which a return of a method of FORMS, or its end, is not as L28 asks for."""
+    rows = []
+    for node in ast.walk(tree):
+        if isinstance(node, ast.FunctionDef) and node.name in FORMS:
+            returns = [each for each in ast.walk(node) if isinstance(each, ast.Return)]
+            rows += [each.lineno for each in returns if not FORMS[node.name](each.value)]
+            if not isinstance(node.body[-1], ast.Return):
+                rows.append(node.end_lineno)
+    return rows
+
+
 class Language(unittest.TestCase):
     def test_the_folder_holds_python_files_only(self):
         others = [path for path in PACKAGE.iterdir() if path.suffix != ".py" and path.name != "__pycache__"]
@@ -110,6 +148,24 @@ class Language(unittest.TestCase):
                     methods = [each.name for each in node.body if isinstance(each, ast.FunctionDef)]
                     if "__getitem__" in methods:
                         self.assertIn("__iter__", methods)
+
+    def test_texts_and_lengths_are_returned_in_plain_forms(self):
+        for name, tree in trees():
+            with self.subTest(file=name):
+                self.assertEqual(formless(tree), [])
+
+    def test_other_forms_of_texts_and_lengths_are_found(self):
+        for name, value, right in (
+                ("__str__", "'\\n'.join(lines_of(self._bands))", True), ("__str__", "str(self._bands)", True),
+                ("__str__", "'none'", True), ("__repr__", "f'{self._bands}'", True), ("__repr__", "repr(self)", True),
+                ("__str__", "text_of(self._bands)", False), ("__str__", "self.text()", False),
+                ("__str__", "sign.join(lines)", False), ("__repr__", "'a' + str(self)", False),
+                ("__len__", "len(self._bands)", True), ("__len__", "3", True), ("__len__", "self.many", False),
+                ("__len__", "True", False), ("__len__", "count_of(self)", False)):
+            with self.subTest(name=name, value=value):
+                tree = ast.parse(f"class Thing:\n    def {name}(self):\n        return {value}\n")
+                self.assertEqual(formless(tree), [] if right else [3])
+        self.assertEqual(formless(ast.parse("def __str__(self):\n    if self.a:\n        return 'a'\n")), [3])
 
     def test_no_other_builtins(self):
         others = set(vars(__builtins__) if not isinstance(__builtins__, dict) else __builtins__)

@@ -57,6 +57,23 @@ class Making(unittest.TestCase):
             "1" + "0" * 72 + " of 1" + "0" * 36,
         ])
 
+    def test_text_of_one_kind(self):
+        for kind, text in (((0, 7), "7 of 0"), ((500, 10), "10 of 500"),
+                           ((10 ** 36, 10 ** 72), "1" + "0" * 72 + " of 1" + "0" * 36)):
+            with self.subTest(kind=kind):
+                self.assertIs(type(str(Purse((kind,)))), str)
+                self.assertEqual(str(Purse((kind,))), text)
+
+    def test_text_of_several_kinds(self):
+        self.assertEqual(str(Purse(((1, 1), (3, 1)))), "1 of 1\n1 of 3")
+        self.assertEqual(str(Purse(((0, 30), (7, 200), (40, 5), (100, 10)))),
+                         "30 of 0\n200 of 7\n5 of 40\n10 of 100")
+        text = str(Purse(THIRTY))
+        self.assertIs(type(text), str)
+        self.assertTrue(text.startswith("1 of 0\n2 of 7\n3 of 14\n"))
+        self.assertTrue(text.endswith("\n29 of 196\n30 of 203"))
+        self.assertEqual(text.count("\n"), 29)
+
 
 class Equality(unittest.TestCase):
     def check(self, one, other, equal):
